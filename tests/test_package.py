@@ -1,6 +1,7 @@
 """The package as a whole: the interface stands where it is listed, and the files keep to the form of the rules."""
 
 import ast
+import builtins
 import os
 import unittest
 
@@ -19,6 +20,17 @@ LISTED = {
     ),
     "codes.py": ("OPS", "KERNEL_ONLY", "encode", "decode", "size_of"),
     "steps.py": ("user_step", "carry_out"),
+    "machine.py": ("PAGE", "USER_WORDS", "READ", "WRITE", "EXECUTE", "RIGHTS", "Machine", "resumed"),
+    "assembling.py": ("Assembly", "assemble"),
+    "listing.py": ("listing",),
+    "config.py": (
+        "Partition", "Config", "page_map", "frame_start", "round_length", "may_flow", "sources_of", "PAGE", "VIRTUAL",
+        "GAP", "CALL", "READ", "WRITE", "EXECUTE",
+    ),
+    "judging.py": ("judge", "count_fault", "shape_fault", "flow_fault"),
+    "plain.py": ("Plain", "run_plain"),
+    "kernelcode.py": ("kernel_of", "layout_of"),
+    "system.py": ("booted", "run_frames", "partition_state", "rest_state", "Watcher"),
 }
 
 # The arguments that the interface gives, by which a caller may also name them.
@@ -33,6 +45,42 @@ ARGUMENTS = {
     "steps.py": {
         "user_step": ["registers", "pc", "view"], "carry_out": ["parts", "registers", "pc", "view"],
     },
+    "machine.py": {"resumed": ["state", "rings", "inputs"]},
+    "assembling.py": {"assemble": ["text", "base"]},
+    "listing.py": {"listing": ["words", "base"]},
+    "config.py": {
+        "page_map": ["config", "p"], "frame_start": ["config", "number"], "round_length": ["config"],
+        "may_flow": ["config", "source", "target"], "sources_of": ["config", "target"],
+    },
+    "judging.py": {
+        "judge": ["config"], "count_fault": ["config"], "shape_fault": ["config"], "flow_fault": ["config"],
+    },
+    "plain.py": {"run_plain": ["config", "inputs", "count"]},
+    "kernelcode.py": {"kernel_of": ["config"], "layout_of": ["config"]},
+    "system.py": {
+        "booted": ["config", "inputs"], "run_frames": ["machine", "config", "count"],
+        "partition_state": ["machine", "config", "p"], "rest_state": ["machine", "config"],
+    },
+}
+
+# The classes that the interface lists, with their methods, and the arguments of each.
+METHODS = {
+    "machine.py": {
+        "Machine": {"__init__": ["self", "memory", "rings", "inputs"], "step": ["self"], "run": ["self", "count"],
+                    "state": ["self"]},
+    },
+    "assembling.py": {"Assembly": {"__init__": ["self", "words", "names"]}},
+    "config.py": {
+        "Partition": {"__init__": ["self", "image", "pages", "start"], "fields": ["self"], "__eq__": ["self", "other"]},
+        "Config": {"__init__": ["self", "partitions", "frames", "channels", "shares", "devices", "flows"],
+                   "fields": ["self"], "__eq__": ["self", "other"]},
+    },
+    "plain.py": {
+        "Plain": {"__init__": ["self", "config", "inputs"], "run_frame": ["self"], "state": ["self", "p"],
+                  "rest": ["self"], "trace": ["self", "p"]},
+    },
+    "kernelcode.py": {"Layout": {"page": ["self", "p", "kind", "index"]}},
+    "system.py": {"Watcher": {"__init__": ["self", "machine", "config"], "run": ["self", "tick"]}},
 }
 
 
@@ -69,6 +117,15 @@ class InterfaceTest(unittest.TestCase):
             self.assertEqual({each: found[each] for each in functions}, functions, name)
 
 
+    def test_methods_stand_in_their_classes_with_their_arguments(self):
+        for name, classes in METHODS.items():
+            nodes = {node.name: node for node in ast.parse(read(name)).body if isinstance(node, ast.ClassDef)}
+            for each, methods in classes.items():
+                bodies = [node for node in nodes[each].body if isinstance(node, ast.FunctionDef)]
+                found = {node.name: [arg.arg for arg in node.args.args] for node in bodies}
+                self.assertEqual({method: found.get(method) for method in methods}, methods, (name, each))
+
+
 class FormTest(unittest.TestCase):
     def test_the_folder_holds_python_files_alone(self):
         for name in package_files():
@@ -100,6 +157,42 @@ class FormTest(unittest.TestCase):
                     bound = bound_names(ast.parse(read(source)))
                     for each in node.names:
                         self.assertIn(each.name, bound, name)
+
+    def test_names_are_bound_once_and_are_no_builtins(self):
+        for name in package_files():
+            bound = bound_names(ast.parse(read(name)))
+            self.assertEqual(len(bound), len(set(bound)), name)
+            for node in ast.walk(ast.parse(read(name))):
+                if isinstance(node, (ast.FunctionDef, ast.ClassDef)) and not node.name.startswith("__"):
+                    self.assertFalse(hasattr(builtins, node.name), (name, node.name))
+                if isinstance(node, ast.Name) and isinstance(node.ctx, ast.Store):
+                    self.assertFalse(hasattr(builtins, node.id), (name, node.id))
+                if isinstance(node, ast.arg):
+                    self.assertFalse(hasattr(builtins, node.arg), (name, node.arg))
+
+    def test_what_the_subset_leaves_out(self):
+        left_out = (
+            ast.GeneratorExp, ast.Set, ast.SetComp, ast.Global, ast.AsyncFunctionDef, ast.Await, ast.Div, ast.Lambda,
+        )
+        for name in package_files():
+            for node in ast.walk(ast.parse(read(name))):
+                self.assertNotIsInstance(node, left_out, name)
+                if isinstance(node, ast.Constant):
+                    self.assertNotIsInstance(node.value, (float, complex), name)
+                    self.assertFalse(isinstance(node.value, str) and "%" in node.value, name)
+                if isinstance(node, ast.FunctionDef):
+                    self.assertEqual(node.decorator_list, [], name)
+
+    def test_no_file_imports_from_itself_over_others(self):
+        imports = {}
+        for name in package_files():
+            nodes = [node for node in ast.parse(read(name)).body if isinstance(node, ast.ImportFrom)]
+            imports[name] = [node.module.removeprefix("merestone.") + ".py" for node in nodes]
+        order = []
+        while len(order) < len(imports):
+            ready = [name for name in imports if name not in order and all(each in order for each in imports[name])]
+            self.assertNotEqual(ready, [])
+            order.extend(ready)
 
 
 if __name__ == "__main__":
