@@ -107,7 +107,8 @@ class PageMapTest(unittest.TestCase):
     def test_shares_and_devices_by_their_numbers(self):
         config = Config(partitions(2, 1, 1), [], [], [(0, 1), (2, 1), (1, 0), (0, 2)], [1, 0, 1, 0], [])
         self.assertEqual(page_map(config, 0), [
-            ("own", 0, 7), ("own", 1, 7), ("share", 0, 3), ("share", 2, 1), ("share", 3, 3), ("device", 1, 1), ("device", 3, 1),
+            ("own", 0, 7), ("own", 1, 7), ("share", 0, 3), ("share", 2, 1), ("share", 3, 3), ("device", 1, 1),
+            ("device", 3, 1),
         ])
         self.assertEqual(page_map(config, 1), [
             ("own", 0, 7), ("share", 0, 1), ("share", 1, 1), ("share", 2, 3), ("device", 0, 1), ("device", 2, 1),

@@ -216,7 +216,8 @@ class PagesTest(JudgeTest):
 
     def test_one_page_more_of_each_kind(self):
         for shares, devices, p in (([(0, 1)], [], 0), ([(1, 0)], [], 0), ([], [0], 0)):
-            config = Config([Partition([], 8, 0), Partition([], 1, 0)], [(0, 200)], [], shares, devices, [(0, 1), (1, 0)])
+            two = [Partition([], 8, 0), Partition([], 1, 0)]
+            config = Config(two, [(0, 200)], [], shares, devices, [(0, 1), (1, 0)])
             self.assert_fault(config, ("pages", p))
             self.assertEqual(shape_fault(config), ("pages", p))
 
@@ -228,12 +229,12 @@ class PagesTest(JudgeTest):
 class OrderTest(JudgeTest):
     def test_kinds_of_shapes_in_their_order(self):
         bad = {
-            "partitions": [Partition([], 8, 0), Partition([], 1, 99)], "frames": [(0, 5)], "channels": [(0, 0, 1, True)],
-            "shares": [(0, 0)], "devices": [9], "flows": [(1, 1)],
+            "partitions": [Partition([], 8, 0), Partition([], 1, 99)], "frames": [(0, 5)],
+            "channels": [(0, 0, 1, True)], "shares": [(0, 0)], "devices": [9], "flows": [(1, 1)],
         }
         good = {
-            "partitions": [Partition([], 8, 0), Partition([], 1, 0)], "frames": [(0, 200)], "channels": [(0, 1, 1, True)],
-            "shares": [(0, 1)], "devices": [0], "flows": [],
+            "partitions": [Partition([], 8, 0), Partition([], 1, 0)], "frames": [(0, 200)],
+            "channels": [(0, 1, 1, True)], "shares": [(0, 1)], "devices": [0], "flows": [],
         }
         names = list(bad)
         kinds = ("partition", "frame", "channel", "share", "device", "flow")

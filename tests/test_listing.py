@@ -26,12 +26,15 @@ class ListingTest(unittest.TestCase):
         for parts, line in (
             (("halt", 0, 0, 0), "halt"), (("until", 0, 0, 0), "until"), (("rest", 0, 0, 0), "rest"),
             (("copy", 1, 7, 0), "copy r1, r7"), (("jal", 0, 7, 0), "jal r0, r7"), (("getu", 1, 2, 0), "getu r1, r2"),
-            (("putu", 2, 1, 0), "putu r2, r1"), (("add", 1, 2, 3), "add r1, r2, r3"), (("sub", 0, 0, 7), "sub r0, r0, r7"),
-            (("mul", 1, 2, 3), "mul r1, r2, r3"), (("and", 1, 2, 3), "and r1, r2, r3"), (("or", 1, 2, 3), "or r1, r2, r3"),
-            (("xor", 1, 2, 3), "xor r1, r2, r3"), (("shl", 1, 2, 15), "shl r1, r2, 15"), (("shr", 1, 2, 0), "shr r1, r2, 0"),
-            (("load", 1, 2, 15), "load r1, r2, 15"), (("store", 1, 2, 8), "store r1, r2, 8"), (("jump", 7, 0, 0), "jump r7"),
-            (("beq", 1, 2, 8), "beq r1, r2, 101"), (("bne", 1, 2, 0), "bne r1, r2, 93"), (("blt", 1, 2, 15), "blt r1, r2, 108"),
-            (("call", 0, 0, 15), "call 15"), (("gets", 3, 0, 6), "gets r3, 6"), (("puts", 3, 0, 4), "puts r3, 4"),
+            (("putu", 2, 1, 0), "putu r2, r1"), (("add", 1, 2, 3), "add r1, r2, r3"),
+            (("sub", 0, 0, 7), "sub r0, r0, r7"), (("mul", 1, 2, 3), "mul r1, r2, r3"),
+            (("and", 1, 2, 3), "and r1, r2, r3"), (("or", 1, 2, 3), "or r1, r2, r3"),
+            (("xor", 1, 2, 3), "xor r1, r2, r3"), (("shl", 1, 2, 15), "shl r1, r2, 15"),
+            (("shr", 1, 2, 0), "shr r1, r2, 0"), (("load", 1, 2, 15), "load r1, r2, 15"),
+            (("store", 1, 2, 8), "store r1, r2, 8"), (("jump", 7, 0, 0), "jump r7"),
+            (("beq", 1, 2, 8), "beq r1, r2, 101"), (("bne", 1, 2, 0), "bne r1, r2, 93"),
+            (("blt", 1, 2, 15), "blt r1, r2, 108"), (("call", 0, 0, 15), "call 15"),
+            (("gets", 3, 0, 6), "gets r3, 6"), (("puts", 3, 0, 4), "puts r3, 4"),
             (("addi", 1, 2, 0), "addi r1, r2, 0"), (("addi", 1, 2, 7), "addi r1, r2, 7"),
             (("addi", 1, 2, 8), "addi r1, r2, -8"), (("addi", 1, 2, 15), "addi r1, r2, -1"),
         ):
@@ -44,7 +47,8 @@ class ListingTest(unittest.TestCase):
         self.assertEqual(listing([], 65535), [])
 
     def test_illegal_words(self):
-        self.assertEqual(listing([1, 65535, 0, 32768, 1025]), ["word 1", "word 65535", "halt", "word 32768", "word 1025"])
+        lines = ["word 1", "word 65535", "halt", "word 32768", "word 1025"]
+        self.assertEqual(listing([1, 65535, 0, 32768, 1025]), lines)
 
     def test_a_set_at_the_end(self):
         for number in range(8):
