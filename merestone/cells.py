@@ -2,9 +2,7 @@
 
 from merestone.config import EXECUTE, PAGE, READ, WRITE
 from merestone.errors import Trap
-from merestone.steps import View
-
-ADDRESS = 2
+from merestone.steps import ADDRESS, View
 
 
 def empty_pages(many):

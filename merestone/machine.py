@@ -3,7 +3,7 @@
 from merestone.codes import KERNEL_ONLY, decode
 from merestone.devices import write_input
 from merestone.errors import Trap
-from merestone.steps import View, carry_out, user_step
+from merestone.steps import ADDRESS, CALLED, View, carry_out, user_step
 from merestone.words import add, wrap
 
 PAGE = 16
@@ -28,9 +28,7 @@ ALARM = 4
 TICKS = 5
 TRAPPED = 6
 
-# Causes of traps.
-ADDRESS = 2
-CALLED = 3
+# The cause of a trap by the alarm.
 ALARMED = 6
 
 

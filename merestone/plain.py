@@ -4,10 +4,8 @@ from merestone.cells import Cell, CellView, empty_pages
 from merestone.config import CALL, GAP, page_map
 from merestone.devices import write_input
 from merestone.errors import Trap
-from merestone.steps import user_step
+from merestone.steps import CALLED, user_step
 from merestone.words import add, wrap
-
-CALLED = 3
 
 # The numbers of the calls.
 REST = 0

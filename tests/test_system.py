@@ -67,6 +67,13 @@ class ScenariosTest(SystemTest):
         config = taken(Config([COUNTER], [(None, 4000)] * 15 + [(0, 128)], [], [], [], []))
         self.assert_same(config, count=33)
 
+    def test_a_partition_that_rests_for_more_than_65536_ticks(self):
+        text = "loop: call 3\nadd r1, r1, r0\ncall 0\nbeq r2, r2, loop"
+        config = taken(Config([program(text)], [(0, 4000)] + [(None, 4000)] * 15, [], [], [], []))
+        self.assert_same(config, count=33)
+        config = taken(Config([program("halt"), program(text)], [(1, 4000)] + [(0, 4000)] * 15, [], [], [], []))
+        self.assert_same(config, count=33)
+
     def test_a_long_frame_ahead_of_others(self):
         self.assert_same(pair(COUNTER, SENDER, [(0, 4000), (None, 4000), (1, 4000)], [(1, 0, 8, False)]), count=7)
 
