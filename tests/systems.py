@@ -142,6 +142,46 @@ def some_config(number, largest=False, wild=False):
     return taken(Config(partitions, *shape.fields()[1:]))
 
 
+def some_flows(source, many):
+    """A policy that need not be transitive."""
+    return [each for each in all_flows(many) if source.random() < 0.4]
+
+
+def some_shape_with_policy(source):
+    """A configuration without images, whose channels and shares keep to its policy."""
+    many = source.randint(2, 5)
+    flows = some_flows(source, many)
+    frames = [(source.choice([None] + list(range(many)) * 4), source.choice((128, 200, 300, source.randint(128, 700))))
+              for _ in range(source.randint(1, 8))]
+    channels, shares = [], []
+    if flows:
+        for a, b in [source.choice(flows) for _ in range(source.randint(0, 8))]:
+            channels.append((a, b, source.randint(1, 4), (b, a) in flows and source.random() < 0.7))
+        shares = [source.choice(flows) for _ in range(source.randint(0, 5))]
+    devices = [source.randrange(many) for _ in range(source.randint(0, 4))]
+    pages = [source.choice((1, 2, 3)) for _ in range(many)]
+    return Config([Partition([], each, 0) for each in pages], frames, channels, shares, devices, flows)
+
+
+def with_images(shape, images):
+    """A configuration with other images."""
+    partitions = [Partition(image, each.pages, each.start) for image, each in zip(images, shape.partitions)]
+    return Config(partitions, *shape.fields()[1:])
+
+
+def some_images(source, shape):
+    return [some_program(source, shape, p) for p in range(len(shape.partitions))]
+
+
+def some_policy_config(number):
+    """A configuration that the judge takes, with a policy that does not let flow all, by a number."""
+    source = random.Random(number)
+    shape = some_shape_with_policy(source)
+    while judge(shape) is not None:
+        shape = some_shape_with_policy(source)
+    return taken(with_images(shape, some_images(source, shape)))
+
+
 def some_inputs(config, count, many, number=0):
     """Inputs for the devices of a configuration, before the end of so many frames and outside of the gap behind it."""
     if not config.devices:
