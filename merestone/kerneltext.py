@@ -24,7 +24,8 @@ NAMED = {
     "PARTITION_WORDS": 20,
     "CHANNEL_WORDS": 16,
     # The variables: the frame that runs or comes next, as a place in the table, and its number; the ticks at which it
-    # begins and ends; the record of its partition; the address behind the table; the number of the channels.
+    # begins and ends; the record of its partition; the address behind the table; the number of the channels; the tick
+    # at which the frame before it has ended. Ticks are modulo 65536.
     "FRAME": 0,
     "NUMBER": 1,
     "BEGIN": 2,
@@ -32,6 +33,7 @@ NAMED = {
     "RUNNING": 4,
     "BEHIND": 5,
     "MANY": 6,
+    "LAST": 7,
     # Within a record.
     "PLACE": 8,
     "ENDED": 9,
@@ -110,6 +112,7 @@ within:     store r1, r7, FRAME
             addi r1, r1, 1
             store r1, r7, NUMBER
             load r1, r7, FINISH
+            store r1, r7, LAST
             set r2, GAP
             add r1, r1, r2
             store r1, r7, BEGIN

@@ -26,6 +26,9 @@ class Plain:
         self.config = config
         self.number = 0
         self.tick = 0
+        # When the next frame begins, and by how much its number for the call 3 is greater than `number`.
+        self.begin = GAP
+        self.ahead = 0
         self.events = []
         self.inputs = list(inputs)
         self.given = 0
@@ -91,7 +94,7 @@ class Plain:
             return self.send(p, tick)
         if call == RECEIVE:
             return self.receive(p, tick)
-        return wrap(self.number)
+        return wrap(self.number + self.ahead)
 
     def serve(self, p, call, tick, end):
         """What becomes of a call; returns the tick of the next instruction."""
@@ -131,13 +134,13 @@ class Plain:
     def run_frame(self):
         """Runs the next gap and the next frame."""
         p, ticks = self.config.frames[self.number % len(self.config.frames)]
-        begin = self.tick + GAP
-        end = begin + ticks
+        end = self.begin + ticks
         if p is not None:
-            self.run_partition(p, begin, end)
+            self.run_partition(p, self.begin, end)
         self.write_inputs(end)
         self.number += 1
         self.tick = end
+        self.begin = end + GAP
 
     def state(self, p):
         """The registers, the place, the end or None, and the own pages of a partition."""

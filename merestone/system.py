@@ -10,11 +10,15 @@ from merestone.words import wrap
 SLOTS = 8
 
 
+def rings_of(config):
+    """The indexes at which the rings of the devices begin."""
+    layout = layout_of(config)
+    return [layout.page(0, "device", index) * PAGE for index in range(len(config.devices))]
+
+
 def booted(config, inputs):
     """The machine of a configuration at its first tick."""
-    layout = layout_of(config)
-    rings = [layout.page(0, "device", index) * PAGE for index in range(len(config.devices))]
-    return Machine(kernel_of(config), rings, inputs)
+    return Machine(kernel_of(config), rings_of(config), inputs)
 
 
 def run_frames(machine, config, count):

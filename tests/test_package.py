@@ -31,6 +31,14 @@ LISTED = {
     "plain.py": ("Plain", "run_plain"),
     "kernelcode.py": ("kernel_of", "layout_of"),
     "system.py": ("booted", "run_frames", "partition_state", "rest_state", "Watcher"),
+    "views.py": ("view", "Book", "histories", "border", "alone"),
+    "partings.py": ("parting", "proper_parting"),
+    "sources.py": ("Source", "parse_source"),
+    "showing.py": ("print_source",),
+    "meaning.py": ("run_source",),
+    "compiling.py": ("compile_source", "addresses", "pages_for", "partition_of"),
+    "saving.py": ("saved_plain", "saved_machine", "loaded_plain", "loaded_machine", "config_of", "restarted"),
+    "changing.py": ("can_change", "plain_changed", "machine_changed", "histories_through"),
 }
 
 # The arguments that the interface gives, by which a caller may also name them.
@@ -61,6 +69,25 @@ ARGUMENTS = {
         "booted": ["config", "inputs"], "run_frames": ["machine", "config", "count"],
         "partition_state": ["machine", "config", "p"], "rest_state": ["machine", "config"],
     },
+    "views.py": {
+        "view": ["plain", "p"], "histories": ["config", "inputs", "count", "book"], "border": ["plain", "p"],
+        "alone": ["config", "p", "inputs", "events", "count"],
+    },
+    "partings.py": {"parting": ["config"], "proper_parting": ["config", "answer"]},
+    "sources.py": {"parse_source": ["text"]},
+    "showing.py": {"print_source": ["source"]},
+    "meaning.py": {"run_source": ["source", "answers", "most"]},
+    "compiling.py": {
+        "compile_source": ["source"], "addresses": ["source"], "pages_for": ["image"], "partition_of": ["source"],
+    },
+    "saving.py": {
+        "saved_plain": ["plain"], "saved_machine": ["machine", "config"], "loaded_plain": ["numbers", "inputs"],
+        "loaded_machine": ["numbers", "inputs"], "config_of": ["numbers"], "restarted": ["numbers", "p"],
+    },
+    "changing.py": {
+        "can_change": ["old", "new"], "plain_changed": ["plain", "config"],
+        "machine_changed": ["machine", "old", "new"], "histories_through": ["phases", "inputs", "book"],
+    },
 }
 
 # The classes that the interface lists, with their methods, and the arguments of each.
@@ -81,6 +108,12 @@ METHODS = {
     },
     "kernelcode.py": {"Layout": {"page": ["self", "p", "kind", "index"]}},
     "system.py": {"Watcher": {"__init__": ["self", "machine", "config"], "run": ["self", "tick"]}},
+    "views.py": {"Book": {"__init__": ["self"], "number": ["self", "key"]}},
+    "sources.py": {"Source": {"__init__": ["self", "names", "body"], "__eq__": ["self", "other"]}},
+    "errors.py": {
+        "Malformed": {"__init__": ["self", "line", "column"]}, "TooLarge": {"__init__": ["self", "limit"]},
+        "BadConfig": {"__init__": ["self", "fault"]}, "BadState": {"__init__": ["self", "why"]},
+    },
 }
 
 
