@@ -95,23 +95,31 @@ def constant(a, word):
     return [encode("set", a, 0, 0), wrap(word)]
 
 
-def jump_words(place, target, is_long):
+def long_jump(target):
+    """The words of a jump to a place that is not near."""
+    return constant(ASIDE, target) + [encode("jump", ASIDE, 0, 0)]
+
+
+def near_field(plan, index):
+    """The field c of a branch that reaches the place of a piece."""
+    return plan.labels[plan.pieces[index][-1]] - plan.places[index] - 1 + AHEAD
+
+
+def jump_words(plan, index):
     """The words of a jump."""
-    if is_long:
-        return constant(ASIDE, target) + [encode("jump", ASIDE, 0, 0)]
-    return [encode("beq", 0, 0, target - place - 1 + AHEAD)]
+    if plan.long[index]:
+        return long_jump(plan.labels[plan.pieces[index][-1]])
+    return [encode("beq", 0, 0, near_field(plan, index))]
 
 
 def branch_words(plan, index):
     """The words of a branch."""
     _, op, a, b, label = plan.pieces[index]
-    place = plan.places[index]
-    target = plan.labels[label]
     if plan.long[index]:
         # The opposite branch goes over the jump.
-        jump = jump_words(place + 1, target, True)
+        jump = long_jump(plan.labels[label])
         return [encode(OPPOSITES[op], a, b, AHEAD + len(jump))] + jump
-    return [encode(op, a, b, target - place - 1 + AHEAD)]
+    return [encode(op, a, b, near_field(plan, index))]
 
 
 def near_words(plan, piece):
@@ -148,7 +156,7 @@ def piece_words(plan, index):
     if kind == "constant":
         return constant(piece[1], piece[2])
     if kind == "jump":
-        return jump_words(plan.places[index], plan.labels[piece[1]], plan.long[index])
+        return jump_words(plan, index)
     if kind == "branch":
         return branch_words(plan, index)
     if plan.long[index]:

@@ -2,7 +2,7 @@
 
 import random
 
-from merestone.compiling import addresses, compile_source, pages_for
+from merestone.compiling import addresses, compile_source
 from merestone.errors import Trap
 from merestone.sources import Source
 from merestone.steps import View, user_step

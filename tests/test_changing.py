@@ -4,7 +4,7 @@ import random
 import unittest
 
 from merestone.changing import can_change, histories_through, machine_changed, plain_changed
-from merestone.config import GAP, Config, Partition, frame_start
+from merestone.config import GAP, Config, Partition
 from merestone.machine import Machine
 from merestone.plain import Plain, run_plain
 from merestone.saving import loaded_machine, loaded_plain, restarted, saved_machine, saved_plain
@@ -179,7 +179,8 @@ class ChangedTest(ChangingTest):
         self.assertEqual((plain_states(plain), plain.rest(), plain.trace(0), plain.events),
                          (plain_states(whole), whole.rest(), whole.trace(0), whole.events))
         plain.run_frame()
-        self.assertEqual((plain.rest(), plain.events), (run_plain(config, inputs, 2).rest(), run_plain(config, inputs, 2).events))
+        whole.run_frame()
+        self.assertEqual((plain.rest(), plain.events), (whole.rest(), whole.events))
 
     def test_the_new_system_stays(self):
         config = pair(SENDER, RECEIVER, [(0, 700), (1, 300)], [(0, 1, 2, True)], [(0, 1)])
@@ -285,8 +286,8 @@ class MachineTest(ChangingTest):
         new = changed(config, frames=[(1, 200), (None, 128), (0, 200)], shares=[(1, 0)])
         for count in (0, 1, 2):
             end = run_plain(config, [], count).tick
-            for tick in (end - 1, end, end + 1, end + 100, end + 254, end + 255, end + 256, end + 300, end + 510, end + 511,
-                         end + 512, end + 513, end + 600, end + 712, end + 1000):
+            for tick in (end - 1, end, end + 1, end + 100, end + 254, end + 255, end + 256, end + 300, end + 510,
+                         end + 511, end + 512, end + 513, end + 600, end + 712, end + 1000):
                 if tick >= 0:
                     self.assert_phases([(config, count), (new, 4)], [(tick, 0, 7), (tick, 1, 8)])
             self.assert_phases([(config, count), (new, 3), (config, 3)], [(9 * k, k % 2, k) for k in range(500)])
@@ -298,6 +299,7 @@ class MachineTest(ChangingTest):
         run_frames(machine, config, 1)
         found = machine_changed(machine, config, changed(config, frames=[(0, 128)]))
         self.assertEqual((found.tick, found.given, found.inputs, found.mode), (711, 2, inputs, "kernel"))
+        self.assertEqual(found.specials[5], 711)
         self.assertEqual(rest_state(found, config)[1], ((2, 0, 1, 2) + (0,) * 12,))
 
     def test_a_second_change_at_once(self):

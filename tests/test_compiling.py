@@ -267,8 +267,9 @@ class CodeTest(CompilingTest):
                 for second in words:
                     # The second part is a variable, and a number; the value is set, and is a condition.
                     source = parse_source(
-                        f"var a = {first} var b = {second} var c var d var e a := a {sign} b c := {first} d := c {sign} "
-                        f"{second} if c {sign} b {{ e := 1 }} else {{ e := 2 }} while c {sign} {second} {{ stop }} d := 9")
+                        f"var a = {first} var b = {second} var c var d var e a := a {sign} b c := {first} "
+                        f"d := c {sign} {second} if c {sign} b {{ e := 1 }} else {{ e := 2 }} "
+                        f"while c {sign} {second} {{ stop }} d := 9")
                     self.assert_does_the_same(source, [])
 
     def test_shifts_and_inversion(self):
@@ -355,7 +356,8 @@ class PartitionsTest(CompilingTest):
         return plain.state(p)[2], own_names(source, view)
 
     def test_sums_over_channels(self):
-        first = parse_source("var n = 1 var ok while n < 6 { send 0, n * n into ok if ok { n := n + 1 } else { rest } }")
+        first = parse_source("var n = 1 var ok while n < 6 { send 0, n * n into ok "
+                             "if ok { n := n + 1 } else { rest } }")
         second = parse_source("var got var word var sum var last while last != 25 { receive 0 into got, word if got "
                               "{ sum := sum + word last := word } else { rest } } send 1, sum")
         config = taken(Config([partition_of(first), partition_of(second)], [(0, 1500), (1, 1200)],

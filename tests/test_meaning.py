@@ -29,7 +29,8 @@ class ExpressionsTest(MeaningTest):
                 ("65535 + 1", 0), ("65535 + 65535", 65534), ("3 - 5", 65534), ("0 - 1", 65535), ("300 * 300", 24464),
                 ("65535 * 65535", 1), ("12 & 10", 8), ("12 | 10", 14), ("12 ^ 10", 6), ("65535 & 4660", 4660),
                 ("40961 << 1", 16386), ("1 << 15", 32768), ("2 << 15", 0), ("40961 >> 1", 20480), ("65535 >> 15", 1),
-                ("7 << 0", 7), ("7 >> 0", 7), ("~0", 65535), ("~65535", 0), ("~1", 65534), ("~~7", 7), ("~21845", 43690)):
+                ("7 << 0", 7), ("7 >> 0", 7), ("~0", 65535), ("~65535", 0), ("~1", 65534), ("~~7", 7),
+                ("~21845", 43690)):
             self.assertEqual(self.word_of(text), word, text)
 
     def test_comparisons_take_words_as_integers_from_0_on(self):
@@ -84,11 +85,13 @@ class NamesTest(MeaningTest):
     def test_an_index_is_worked_out_before_the_value(self):
         self.assert_run("table t 4 page p 32 8 t[p[1]] := p[2]", [3, 9], [("read", 33), ("read", 34)], "stop",
                         [(0, 0, 0, 9)])
-        self.assert_run("page p 32 8 p[p[1]] := p[2]", [3, 9], [("read", 33), ("read", 34), ("write", 35, 9)], "stop", [])
+        self.assert_run("page p 32 8 p[p[1]] := p[2]", [3, 9], [("read", 33), ("read", 34), ("write", 35, 9)], "stop",
+                        [])
 
     def test_writes_and_reads_in_their_order(self):
         self.assert_run("var x page p 32 2 p[0] := 1 x := p[1] p[1] := x p[0] := p[0]", [7, 8],
-                        [("write", 32, 1), ("read", 33), ("write", 33, 7), ("read", 32), ("write", 32, 8)], "stop", [(7,)])
+                        [("write", 32, 1), ("read", 33), ("write", 33, 7), ("read", 32), ("write", 32, 8)], "stop",
+                        [(7,)])
 
     def test_pages_have_no_words_of_their_own(self):
         self.assert_run("var x page p 32 2 p[0] := 1 x := p[0]", [7], [("write", 32, 1), ("read", 32)], "stop", [(7,)])
@@ -143,7 +146,8 @@ class WaitingTest(MeaningTest):
                                ("send 1, x into x", ("send", 1, 5)), ("receive 2 into x, y", ("receive", 2)),
                                ("frame into x", ("frame",)), ("p[p[1]] := 3", ("read", 33)),
                                ("t[1] := p[1]", ("read", 33)), ("t[p[1]] := 9", ("read", 33)),
-                               ("if p[1] { x := 9 } else { x := 8 }", ("read", 33)), ("while p[1] { x := 9 }", ("read", 33)),
+                               ("if p[1] { x := 9 } else { x := 8 }", ("read", 33)),
+                               ("while p[1] { x := 9 }", ("read", 33)),
                                ("send 1, p[2] into x", ("read", 34))):
             names = "var x = 5 var y = 6 table t 2 = 7, 8 page p 32 8 "
             words = [(5,), (6,), (7, 8)]

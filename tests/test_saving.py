@@ -112,8 +112,8 @@ class SavedTest(SavingTest):
         self.assert_saved(taken(Config([COUNTER], [(None, 128)], [], [], [], [])))
 
     def test_ends(self):
-        texts = ["halt", "word 1", "set r1, 99\njump r1", "load r1, r2, 15\nload r1, r1, 15", "set r3, 65535\nload r1, r3, 0",
-                 *[f"call {number}" for number in range(4, 16)]]
+        texts = ["halt", "word 1", "set r1, 99\njump r1", "load r1, r2, 15\nload r1, r1, 15",
+                 "set r3, 65535\nload r1, r3, 0", *[f"call {number}" for number in range(4, 16)]]
         for text in texts:
             self.assert_saved(pair(program(text), COUNTER, [(0, 200), (1, 200)]), count=2, more=2)
 
@@ -167,7 +167,7 @@ class SavedTest(SavingTest):
     def test_ticks_and_numbers_beyond_65535(self):
         config = pair(program("loop: call 3\nadd r1, r1, r0\ncall 0\nbeq r2, r2, loop"), SENDER,
                       [(0, 4000), (1, 300), (None, 3700)], [(1, 0, 8, True)])
-        self.assert_saved(config, [(9000 * k, 0, k) for k in ()], 26, 2)
+        self.assert_saved(config, [], 26, 2)
         numbers = saved_plain(run_plain(config, [], 3))
         for number in (65533, 65534, 65535):
             changed = [numbers[0], 0, number, *numbers[3:]]
@@ -220,7 +220,8 @@ class LoadedTest(SavingTest):
         config = alone(COUNTER, 200, devices=[0])
         numbers = saved_plain(run_plain(config, [], 1))
         machine = loaded_machine(numbers, [(711, 0, 4), (711, 0, 5), (712, 0, 6)])
-        self.assertEqual((machine.tick, machine.given, machine.inputs), (711, 0, [(711, 0, 4), (711, 0, 5), (712, 0, 6)]))
+        self.assertEqual((machine.tick, machine.given), (711, 0))
+        self.assertEqual(machine.inputs, [(711, 0, 4), (711, 0, 5), (712, 0, 6)])
         machine.step()
         self.assertEqual((machine.given, rest_state(machine, config)[1][0][:5]), (2, (2, 0, 4, 5, 0)))
 
@@ -304,6 +305,16 @@ class BadStateTest(SavingTest):
                            len(self.numbers) - index - 1 + (index == QUEUE)):
                 self.assert_bad("numbers", self.changed((index, number)))
 
+    def test_counts_below_0_with_nothing_behind_them(self):
+        # All other numbers are as if there was nothing: only the count is wrong.
+        self.assert_bad("config", [256, 0, 0, 0, 0, 0, 0, 0, 0])
+        for index in range(3, 9):
+            for number in (-1, -2, -10 ** 30):
+                self.assert_bad("numbers", [256, 0, 0, *[number if k == index else 0 for k in range(3, 9)]])
+        for number, why in ((0, "config"), (-1, "numbers"), (-7, "numbers")):
+            self.assert_bad(why, [256, 0, 0, 1, number, 0, 0, 0, 0, 0, 0, 0, *ZEROS, 0, 0, 0, 0])
+            self.assert_bad("numbers", [256, 0, 0, 1, 0, 0, number - 1, 0, 0, 0, 0, 0, *ZEROS, 0, 0, 0, 0])
+
     def test_no_number_of_pages_is_no_end_of_the_list(self):
         # A partition without own pages has no words of its own: only the judge refuses it.
         self.assert_bad("config", self.inserted(FIRST + 12, 16)[:PARTITIONS + 1] + [0]
@@ -383,8 +394,8 @@ class BadStateTest(SavingTest):
 
     def test_two_faults(self):
         # One of each kind, in the order of the document; a fault further ahead is told.
-        faults = [("config", (FRAMES + 2, 127)), ("frame", (1, 3)), ("words", (SHARED, 65536)), ("ends", (FIRST + 9, 2)),
-                  ("channels", (CHANNELS + 3, 1))]
+        faults = [("config", (FRAMES + 2, 127)), ("frame", (1, 3)), ("words", (SHARED, 65536)),
+                  ("ends", (FIRST + 9, 2)), ("channels", (CHANNELS + 3, 1))]
         queue = [2, 5, 6]
         for first in range(5):
             for second in range(first, 5):
@@ -435,7 +446,8 @@ class AnyStateTest(SavingTest):
                 cell.registers = [source.randrange(65536) for _ in range(8)]
                 cell.pc = source.choice((source.randrange(65536), source.randrange(20)))
                 cell.end = source.choice((None, None, (1, 0), (2, source.randrange(65536)), (3, 7), (5, 0)))
-                cell.own = [[source.choice((source.randrange(26 * 1024), word)) for word in words] for words in cell.own]
+                for words in cell.own:
+                    words[:] = [source.choice((source.randrange(26 * 1024), word)) for word in words]
             for k, words in enumerate(loaded.channels):
                 words.extend(source.randrange(65536) for _ in range(source.randint(0, config.channels[k][2])))
             for words in loaded.shares + loaded.devices:
@@ -463,7 +475,8 @@ class AnyStateTest(SavingTest):
 
 class RestartedTest(SavingTest):
     def test_what_is_as_at_the_beginning(self):
-        config = pair(SENDER, Partition([*RECEIVER.image], 2, 2), [(0, 700), (1, 400)], [(0, 1, 8, True)], [(0, 1)], [1])
+        receiver = Partition(RECEIVER.image, 2, 2)
+        config = pair(SENDER, receiver, [(0, 700), (1, 400)], [(0, 1, 8, True)], [(0, 1)], [1])
         before = run_plain(config, [(3, 0, 7)], 4)
         for p in (0, 1):
             plain = loaded_plain(restarted(saved_plain(before), p), [])

@@ -78,8 +78,8 @@ class ShowingTest(unittest.TestCase):
                 " if ok { rest } else { receive 1 into ok, n }")
         source = parse_source(text)
         self.assert_lines(source, "var n = 2", "var ok = 0", "table t 4 = 1, 2", "while (n < 5) {",
-                          "  send 0, (n * n) into ok", "  n := (n + ok)", "  t[((n << 1) & 3)] := ~t[0]", "}", "if ok {",
-                          "  rest", "} else {", "  receive 1 into ok, n", "}")
+                          "  send 0, (n * n) into ok", "  n := (n + ok)", "  t[((n << 1) & 3)] := ~t[0]", "}",
+                          "if ok {", "  rest", "} else {", "  receive 1 into ok, n", "}")
 
     def test_it_is_read_as_an_equal_program(self):
         for number in range(300, 600):
